@@ -1,0 +1,1 @@
+"""A string of beads, told from how it rings."""

@@ -49,3 +49,15 @@ def remainder(one, other):
         taken = scaled(raised(other, len(rest) - len(other)), opposite(share))
         rest = trimmed(added(rest, taken))
     return rest
+
+
+def falling_factors(one, other, count):
+    """The factors of the powers -1, -2 and so on in one by other; other's last factor isn't 0, and one is shorter."""
+    factors = []
+    rest = one
+    for step in range(count):
+        rest = raised(rest, 1)
+        share = divided(factor_of(rest, len(other) - 1), other[-1])
+        factors.append(share)
+        rest = trimmed(added(rest, scaled(other, opposite(share))))
+    return factors

@@ -34,6 +34,13 @@ def divided(one, other):
     return lowest(one[0] * other[1], one[1] * other[0])
 
 
+def total(fractions):
+    result = ZERO
+    for fraction in fractions:
+        result = plus(result, fraction)
+    return result
+
+
 def opposite(one):
     return (-one[0], one[1])
 

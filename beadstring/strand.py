@@ -1,13 +1,17 @@
 """The string of beads that a line of calls speaks of, and what each call answers."""
 
-from beadstring.ratio import ONE, ZERO, divided, is_less, lowest, opposite
-from beadstring.polynomials import added, raised, scaled, value_at
+from beadstring.ratio import ONE, ZERO, divided, is_less, lowest, opposite, plus, total
+from beadstring.polynomials import added, falling_factors, raised, scaled, value_at
+from beadstring.telling import find_parts, without_gap
 from beadstring.zeros import zeros_above, zeros_between, zeros_everywhere
 
 NOT_THERE = -2
 NOT_LET = -22
+CANNOT_BE = -33
+TOO_GREAT = -75
 
 MOST_BEADS = 4
+MOST_MEANS = 12
 MOST_OF_A_PART = 99
 MOST_OF_A_PLACE = 999
 
@@ -27,6 +31,29 @@ def told_fractions(fractions):
     for fraction in fractions:
         numbers.extend([fraction[0], fraction[1]])
     return numbers
+
+
+def told_parts(gaps, beads):
+    return [len(beads)] + told_fractions(gaps) + told_fractions(beads)
+
+
+def is_row(row):
+    """Whether a row may tell a polynomial; a string's has one factor more than there are beads."""
+    return lies_within(len(row), 1, MOST_BEADS + 1)
+
+
+def is_too_great(part):
+    return max(part[0], part[1]) >= 10 ** 60
+
+
+def read_answer(e, upper, lower):
+    """The pair (refusal, parts) of an answer that's handed in; one of the two is None."""
+    if e < 1 or not (is_row(upper) and is_row(lower)):
+        return (NOT_LET, None)
+    parts = find_parts([lowest(number, e) for number in upper], [lowest(number, e) for number in lower])
+    if parts is None:
+        return (CANNOT_BE, None)
+    return (None, parts)
 
 
 def set_part(parts, i, above, below):
@@ -63,7 +90,7 @@ class Strand:
         return set_part(self.beads, i, above, below)
 
     def all_parts(self):
-        return [len(self.beads)] + told_fractions(self.gaps) + told_fractions(self.beads)
+        return told_parts(self.gaps, self.beads)
 
     def polynomials(self):
         """The pair (upper, lower) whose quotient is the string's answer."""
@@ -102,3 +129,52 @@ class Strand:
         both = self.polynomials()
         above_zero = [zeros_above(both[1], ZERO), zeros_above(both[0], ZERO)]
         return above_zero + [zeros_everywhere(both[1]), zeros_everywhere(both[0])]
+
+    def told(self, e, upper, lower):
+        outcome = read_answer(e, upper, lower)
+        if outcome[0] is not None:
+            return [outcome[0]]
+        return told_parts(outcome[1][0], outcome[1][1])
+
+    def take(self, e, upper, lower):
+        outcome = read_answer(e, upper, lower)
+        if outcome[0] is not None:
+            return [outcome[0]]
+        parts = outcome[1]
+        if any([is_too_great(part) for part in parts[0] + parts[1]]):
+            return [TOO_GREAT]
+        self.gaps = parts[0]
+        self.beads = parts[1]
+        return [len(self.beads)]
+
+    def found(self):
+        both = self.polynomials()
+        parts = find_parts(both[0], both[1])
+        return told_parts(parts[0], parts[1])
+
+    def turn(self):
+        self.gaps = list(reversed(self.gaps))
+        self.beads = list(reversed(self.beads))
+        return [0]
+
+    def join_gaps(self, i):
+        """Take bead i out, so that the gaps on both its sides are one, and answer how heavy it was."""
+        if not lies_within(i, 0, len(self.beads) - 1):
+            return [NOT_THERE]
+        if len(self.beads) == 1:
+            return [CANNOT_BE]
+        before = self.beads[i]
+        self.gaps = self.gaps[:i] + [plus(self.gaps[i], self.gaps[i + 1])] + self.gaps[i + 2:]
+        self.beads = self.beads[:i] + self.beads[i + 1:]
+        return [0] + told_fractions([before])
+
+    def means(self, k):
+        if not lies_within(k, 1, MOST_MEANS):
+            return [NOT_LET]
+        both = self.polynomials()
+        rest = without_gap(both[0], both[1], self.gaps[0])
+        return [k] + told_fractions([opposite(factor) for factor in falling_factors(rest, both[1], k)])
+
+    def measures(self):
+        """How long all gaps are together, and how heavy all beads."""
+        return [0] + told_fractions([total(self.gaps), total(self.beads)])

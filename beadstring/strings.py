@@ -12,31 +12,43 @@ ANSWER = 4
 AT = 5
 RINGS = 6
 ALL = 7
+TOLD = 8
+TAKE = 9
+FOUND = 10
+TURN = 11
+JOIN = 12
+MEANS = 13
 
-# How many whole numbers stand behind a call's number, and how many rows behind these. Calls from 8 on are
-# listed too: they are refused before a begin like all others, so they must be read past.
+# How many whole numbers stand behind a call's number, and how many rows behind these.
 WHOLES = (1, 3, 3, 0, 0, 2, 4, 0, 1, 1, 0, 0, 1, 1, 0)
 ROWS = (0, 0, 0, 0, 0, 0, 0, 0, 2, 2, 0, 0, 0, 0, 0)
 
 
-class NotBuilt(Exception):
-    """A call that this program doesn't have yet."""
+def read_rows(calls, place, count):
+    """The rows that stand one behind another from a place on, each with its length before it."""
+    rows = []
+    for row in range(count):
+        behind = place + 1 + calls[place]
+        rows.append(calls[place + 1:behind])
+        place = behind
+    return rows
 
 
-def place_behind(calls, place):
-    """Where the call ends that begins at a place of the list."""
-    behind = place + 1 + WHOLES[calls[place]]
-    for row in range(ROWS[calls[place]]):
-        behind = behind + 1 + calls[behind]
-    return behind
-
-
-def answer_begun(strand, number, wholes):
-    """What a call on a string that's there answers."""
+def answer_changing(strand, number, wholes, rows):
+    """What a call answers that may change the string that's there."""
     if number == GAP:
         return strand.set_gap(wholes[0], wholes[1], wholes[2])
     if number == BEAD:
         return strand.set_bead(wholes[0], wholes[1], wholes[2])
+    if number == TAKE:
+        return strand.take(wholes[0], rows[0], rows[1])
+    if number == TURN:
+        return strand.turn()
+    return strand.join_gaps(wholes[0])
+
+
+def answer_asking(strand, number, wholes, rows):
+    """What a call answers that leaves the string that's there as it is."""
     if number == STRING:
         return strand.all_parts()
     if number == ANSWER:
@@ -47,15 +59,23 @@ def answer_begun(strand, number, wholes):
         return strand.rings(wholes[0], wholes[1], wholes[2], wholes[3])
     if number == ALL:
         return strand.all_rings()
-    raise NotBuilt(f"call {number} is not built yet")
+    if number == TOLD:
+        return strand.told(wholes[0], rows[0], rows[1])
+    if number == FOUND:
+        return strand.found()
+    if number == MEANS:
+        return strand.means(wholes[0])
+    return strand.measures()
 
 
-def answer_call(strand, number, wholes):
+def answer_call(strand, number, wholes, rows):
     if number == BEGIN:
         return strand.begin(wholes[0])
     if not strand.begun:
         return [NOT_BEGUN]
-    return answer_begun(strand, number, wholes)
+    if number in (GAP, BEAD, TAKE, TURN, JOIN):
+        return answer_changing(strand, number, wholes, rows)
+    return answer_asking(strand, number, wholes, rows)
 
 
 def answers(calls):
@@ -64,9 +84,12 @@ def answers(calls):
     answered = []
     place = 0
     while place < len(calls):
-        wholes = calls[place + 1:place + 1 + WHOLES[calls[place]]]
-        numbers = answer_call(strand, calls[place], wholes)
+        number = calls[place]
+        behind = place + 1 + WHOLES[number]
+        wholes = calls[place + 1:behind]
+        rows = read_rows(calls, behind, ROWS[number])
+        numbers = answer_call(strand, number, wholes, rows)
         answered.append(len(numbers))
         answered.extend(numbers)
-        place = place_behind(calls, place)
+        place = behind + sum([1 + len(row) for row in rows])
     return answered

@@ -111,6 +111,53 @@ class Language(unittest.TestCase):
             if isinstance(node, ast.Name) and node.id in python_names:
                 self.assertIn(node.id, OWN_NAMES, place)
 
+    def test_no_local_is_called_like_a_class_or_an_import_of_its_file(self):
+        for path, text in sources():
+            tree = ast.parse(text)
+            taken = {alias.asname or alias.name for node in tree.body if isinstance(node, ast.ImportFrom)
+                     for alias in node.names}
+            taken.update(node.name for node in tree.body if isinstance(node, ast.ClassDef))
+            for top in tree.body:
+                if isinstance(top, (ast.FunctionDef, ast.ClassDef)):
+                    inner = [name for node in ast.walk(top) if node is not top for name in bound_names(node)]
+                    self.assertEqual([name for name in inner if name in taken], [], path.name)
+
+    def test_top_of_a_file_is_plain_and_binds_each_name_once(self):
+        for path, text in sources():
+            names = []
+            for place, node in enumerate(ast.parse(text).body):
+                if isinstance(node, ast.Assign):
+                    ast.literal_eval(node.value)
+                    names.append(node.targets[0].id)
+                elif isinstance(node, ast.ImportFrom):
+                    names.extend(alias.asname or alias.name for alias in node.names)
+                elif isinstance(node, (ast.FunctionDef, ast.ClassDef)):
+                    names.append(node.name)
+                else:
+                    self.assertTrue(place == 0 and isinstance(node, ast.Expr), path.name)
+            self.assertEqual(len(names), len(set(names)), path.name)
+
+    def test_imports_come_from_the_file_that_defines_the_name(self):
+        defined = {f"beadstring.{path.stem}": [name for node in ast.parse(text).body for name in
+                                               (bound_names(node.targets[0]) if isinstance(node, ast.Assign)
+                                                else bound_names(node))] for path, text in sources()}
+        for place, node in nodes():
+            if isinstance(node, ast.ImportFrom):
+                for alias in node.names:
+                    self.assertIn(alias.name, defined[node.module], place)
+
+    def test_is_stands_beside_none_true_and_false_alone(self):
+        for place, node in nodes():
+            if isinstance(node, ast.Compare) and isinstance(node.ops[0], (ast.Is, ast.IsNot)):
+                other = node.comparators[0]
+                self.assertTrue(isinstance(other, ast.Constant) and other.value in (None, True, False), place)
+
+    def test_what_is_walked_at_once_is_not_kept(self):
+        for place, node in nodes():
+            value = getattr(node, "value", None) if isinstance(node, (ast.Assign, ast.Return)) else None
+            if isinstance(value, ast.Call) and isinstance(value.func, ast.Name):
+                self.assertNotIn(value.func.id, ("zip", "enumerate", "reversed", "range"), place)
+
     def test_methods(self):
         own = {node.name for place, node in nodes() if isinstance(node, ast.FunctionDef)}
         python_values = set()

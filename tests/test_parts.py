@@ -2,7 +2,8 @@
 
 import unittest
 
-from helper import ALL, ANSWER, LEAST, MOST, STRING, at, bead, begin, gap, last, rings, tell
+from helper import ALL, ANSWER, FOUND, LEAST, LONG, MOST, STRING, TURN, at, bead, begin, gap, join, last, means, rings
+from helper import take, tell, told
 
 
 class Begin(unittest.TestCase):
@@ -20,20 +21,19 @@ class Begin(unittest.TestCase):
         self.assertEqual(tell(begin(5), STRING, begin(-1), ANSWER), [[-22], [-11], [-22], [-11]])
 
     def test_all_else_is_refused_before_a_begin(self):
-        for call in (gap(0, 1, 1), bead(0, 1, 1), STRING, ANSWER, at(0, 1), rings(0, 1, 1, 1), ALL):
+        for call in (gap(0, 1, 1), bead(0, 1, 1), STRING, ANSWER, at(0, 1), rings(0, 1, 1, 1), ALL, told(1, [2], [1]),
+                     take(1, [2], [1]), FOUND, TURN, join(0), means(1), LONG):
             with self.subTest(call=call):
                 self.assertEqual(tell(call, begin(0), STRING), [[-11], [0], [0, 1, 1]])
+                self.assertEqual(tell(begin(5), call, begin(0), STRING), [[-22], [-11], [0], [0, 1, 1]])
+                self.assertEqual(tell(call, call), [[-11], [-11]])
 
     def test_not_begun_comes_before_other_refusals(self):
-        for call in (gap(9, 0, 0), bead(-1, 1, 1), bead(0, 100, 1), at(1000, 0), rings(0, 0, 0, 0)):
+        for call in (gap(9, 0, 0), bead(-1, 1, 1), bead(0, 100, 1), at(1000, 0), rings(0, 0, 0, 0), told(0, [], []),
+                     told(1, [1], [2]), take(0, [1], [1]), take(1, [0], [1]), take(1, [], [1] * 70), join(-1), join(MOST),
+                     means(0), means(13)):
             with self.subTest(call=call):
                 self.assertEqual(tell(call), [[-11]])
-
-    def test_calls_of_later_numbers_are_read_past_before_a_begin(self):
-        later = ([8, 1, 2, 0, 0, 1, 0], [9, 0, 0, 0], [10], [11], [12, 0], [13, 0], [14])
-        for call in later:
-            with self.subTest(call=call):
-                self.assertEqual(tell(call, begin(1)), [[-11], [1]])
 
     def test_may_come_again(self):
         told = tell(begin(1), gap(1, 5, 7), bead(0, 2, 1), begin(1), STRING, begin(0), STRING, begin(2), STRING)

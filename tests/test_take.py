@@ -18,7 +18,7 @@ JUST_TOO_GREAT = (
     (9797, [46242, -222695, 262122, -108933, 14668], [9797, -110549, 208434, -126144, 23657]),
     (45511, [236657, -1008865, 1048566, -356362, 33720], [45511, -519626, 711852, -274563, 27415]),
 )
-# One with parts of more than a hundred digits, gaps among them.
+# One with a bead of more than a hundred digits, and with gaps that are too great as well.
 FAR_TOO_GREAT = (94356255, [439700148, -1954124174, 2147483636, -804448243, 86998391],
                  [94356255, -937853997, 1363704558, -601679488, 74357599])
 # Answers whose strings have numbers of 60 digits, but none of 61.
